@@ -1,0 +1,1 @@
+"""Symmetries of repeated charts."""

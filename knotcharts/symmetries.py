@@ -1,0 +1,177 @@
+"""The symmetries of the field that a chart gives when it is repeated without end.
+
+Each call of the interface answers a list of whole numbers; one number below 0
+alone is a refusal.
+"""
+
+LONGEST_TEXT = 66048
+MOST_KNOTS = 65536
+WIDEST = 512
+HIGHEST = 512
+ROW_END = 10
+LAST_TURN = 7
+
+REFUSED_MOTION = -1
+REFUSED_LONG_TEXT = -2
+REFUSED_NO_CHART = -6
+
+
+def has(m, a, b, t):
+    """Answer [1] if (m, a, b) is a symmetry of the chart's field, else [0]."""
+    refusal = text_refusal(t)
+    if refusal < 0:
+        return [refusal]
+    if m > LAST_TURN:
+        return [REFUSED_MOTION]
+    cell = cell_for(split_rows(t), m)
+    if cell is not None and fits(cell, turned(cell, m), a, b):
+        return [1]
+    return [0]
+
+
+def count(t):
+    """Answer how many symmetries of the chart's field are told."""
+    refusal = text_refusal(t)
+    if refusal < 0:
+        return [refusal]
+    return [len(told(split_rows(t)))]
+
+
+def text_refusal(t):
+    """Give the number that refuses t as a chart's text, or 0."""
+    if len(t) > LONGEST_TEXT:
+        return REFUSED_LONG_TEXT
+    if len(t) == 0 or t[-1] != ROW_END or not is_chart(split_rows(t)):
+        return REFUSED_NO_CHART
+    return 0
+
+
+def split_rows(t):
+    """Give the rows of a text that closes with a row's end, without their ends."""
+    rows = []
+    row = []
+    for byte in t:
+        if byte == ROW_END:
+            rows.append(row)
+            row = []
+        else:
+            row.append(byte)
+    return rows
+
+
+def is_chart(rows):
+    """Tell whether one row or more are those of a chart."""
+    height = len(rows)
+    width = len(rows[0])
+    if width < 1 or width > WIDEST or height > HIGHEST or width * height > MOST_KNOTS:
+        return False
+    return all([is_chart_row(row, width) for row in rows])
+
+
+def is_chart_row(row, width):
+    """Tell whether a row has that many knots, each with a colour."""
+    return len(row) == width and all([is_colour(byte) for byte in row])
+
+
+def is_colour(byte):
+    """Tell whether a byte is one of a to z, A to Z, 0 to 9."""
+    return 97 <= byte <= 122 or 65 <= byte <= 90 or 48 <= byte <= 57
+
+
+def told(rows):
+    """Give the told symmetries as (m, a, b), in order by m, then b, then a."""
+    found = []
+    for m in range(LAST_TURN + 1):
+        found.extend(told_with_turn(rows, m))
+    return found
+
+
+def told_with_turn(rows, m):
+    """Give the told symmetries with this m alone, in order by b, then a."""
+    cell = cell_for(rows, m)
+    if cell is None:
+        return []
+    image = turned(cell, m)
+    found = []
+    for b in range(len(rows)):
+        for a in range(len(rows[0])):
+            if fits(cell, image, a, b):
+                found.append((m, a, b))
+    return found
+
+
+def cell_for(rows, m):
+    """Give rows that repeat to the same field and that m turns onto themselves.
+
+    None if there are none, as then no symmetry has this m.
+    """
+    # Turns with odd m change places between the sides: w by h becomes h by w.
+    if m % 2 == 1:
+        return square_cell(rows)
+    return rows
+
+
+def square_cell(rows):
+    """Give the square whose side is the common measure of w and h, if it repeats to rows, else None."""
+    # A symmetry with odd m carries the steps (w, 0) and (0, h) over into (0, w)
+    # and (h, 0). So the field repeats by w and by h to either side, and thus by
+    # the greatest common measure of both; without that no odd m has a symmetry.
+    width = len(rows[0])
+    height = len(rows)
+    side = common_measure(width, height)
+    cell = [row[:side] for row in rows[:side]]
+    if rows == [cell[y % side] * (width // side) for y in range(height)]:
+        return cell
+    return None
+
+
+def common_measure(first, second):
+    """Give the greatest whole number that divides both."""
+    while second > 0:
+        rest = first % second
+        first = second
+        second = rest
+    return first
+
+
+def turned(cell, m):
+    """Give the cell with each knot at m's turn of its place, brought back within the cell."""
+    width = len(cell[0])
+    height = len(cell)
+    image = [[0] * width for y in range(height)]
+    for y in range(height):
+        for x in range(width):
+            place = turned_place(m, x, y)
+            image[place[1] % height][place[0] % width] = cell[y][x]
+    return image
+
+
+def turned_place(m, x, y):
+    """Give m's turn of the place (x, y)."""
+    if m == 0:
+        return (x, y)
+    if m == 1:
+        return (-y, x)
+    if m == 2:
+        return (-x, -y)
+    if m == 3:
+        return (y, -x)
+    if m == 4:
+        return (-x, y)
+    if m == 5:
+        return (-y, -x)
+    if m == 6:
+        return (x, -y)
+    return (y, x)
+
+
+def fits(cell, image, a, b):
+    """Tell whether the image, moved on by (a, b), lies on the repeated cell colour on colour."""
+    height = len(cell)
+    left = a % len(cell[0])
+    for y in range(height):
+        row = cell[(y + b) % height]
+        # Whole rows are compared, not knot by knot, for count asks this very often.
+        if row[left:] + row[:left] != image[y]:
+            return False
+    return True

@@ -1,0 +1,83 @@
+"""What the tests share: charts written short, and the document's words taken one by one."""
+
+from itertools import product
+from math import gcd
+
+DOC_CHARTS = ["ab/ba/", "aab/", "aabc/", "ab/cd/", "abc/bca/cab/", "ab/"]
+
+# Quarter turns and no mirrors: the knots b lie where y is 2x.
+PINWHEEL = "baaaa/aaaba/abaaa/aaaab/aabaa/"
+
+REFUSED_TEXTS = [
+    (-6, "the empty text", []),
+    (-6, "no byte 10 at the end", list(b"ab\nba")),
+    (-6, "one knot and no byte 10", list(b"a")),
+    (-6, "a row of no knots alone", [10]),
+    (-6, "a row of no knots first", list(b"\nab\n")),
+    (-6, "a row of no knots between", list(b"ab\n\nab\n")),
+    (-6, "a row of no knots last", list(b"ab\n\n")),
+    (-6, "600 rows of no knots", [10] * 600),
+    (-6, "a shorter second row", list(b"ab\na\n")),
+    (-6, "a longer second row", list(b"ab\nabc\n")),
+    (-6, "a blank", list(b"a b\n")),
+    (-6, "a byte 13", list(b"ab\r\n")),
+    (-6, "a byte 0", [97, 0, 10]),
+    (-6, "a byte 255", [97, 255, 10]),
+    (-6, "no colour in the last row", list(b"ab\nb-\n")),
+    (-6, "513 wide", [97] * 513 + [10]),
+    (-6, "599 wide", [97] * 599 + [10]),
+    (-2, "66,049 bytes, 512 wide", ([97] * 512 + [10]) * 128 + [97] * 384 + [10]),
+    (-2, "66,049 bytes, 1 wide, no byte 10 at the end", [97, 10] * 33024 + [97]),
+    (-2, "66,049 bytes that are no colours", [0] * 66049),
+    (-2, "66,100 bytes, 1 wide", [97, 10] * 33050),
+]
+
+COLOURS = b"abcdefghijklmnopqrstuvwxyzABCDEFGHIJKLMNOPQRSTUVWXYZ0123456789"
+
+
+def text(written):
+    """Give the bytes of a chart written with / for byte 10."""
+    return list(written.replace("/", "\n").encode())
+
+
+def turn(m, x, y):
+    return [(x, y), (-y, x), (-x, -y), (y, -x), (-x, y), (-y, -x), (x, -y), (y, x)][m]
+
+
+def is_symmetry(written, m, a, b):
+    """Look at every place of a square after which field and turned field repeat."""
+    rows = written.split("/")[:-1]
+    width, height = len(rows[0]), len(rows)
+    side = width * height // gcd(width, height)
+    for place in product(range(side), repeat=2):
+        x, y = turn(m, *place)
+        if rows[(y + b) % height][(x + a) % width] != rows[place[1] % height][place[0] % width]:
+            return False
+    return True
+
+
+def told(written):
+    """Give all (m, a, b) that are told, by the document's words alone."""
+    rows = written.split("/")[:-1]
+    return [(m, a, b) for m in range(8) for b in range(len(rows)) for a in range(len(rows[0]))
+            if is_symmetry(written, m, a, b)]
+
+
+def small_charts():
+    """Give every chart of two colours with at most 6 knots, and some of 8."""
+    for width, height in product(range(1, 7), repeat=2):
+        if width * height <= 6:
+            for knots in product("ab", repeat=width * height):
+                rows = ["".join(knots[y * width:(y + 1) * width]) for y in range(height)]
+                yield "".join(row + "/" for row in rows)
+    yield from ["abab/baba/", "ab/ba/ab/ba/", "aabb/bbaa/", "ab/bb/ab/bb/", "abab/bbbb/"]
+
+
+class Watched(list):
+    """A list that fails the test when anything is changed in it."""
+
+    def refuse(self, *rest, **named):
+        raise AssertionError("what was handed in was changed")
+
+    append = extend = insert = pop = remove = clear = reverse = sort = refuse
+    __setitem__ = __delitem__ = __iadd__ = __imul__ = refuse
