@@ -13,6 +13,7 @@ LAST_TURN = 7
 
 REFUSED_MOTION = -1
 REFUSED_LONG_TEXT = -2
+REFUSED_PLACE = -4
 REFUSED_NO_CHART = -6
 
 
@@ -35,6 +36,28 @@ def count(t):
     if refusal < 0:
         return [refusal]
     return [len(told(split_rows(t)))]
+
+
+def nth(k, t):
+    """Answer 0, m, a, b: the k-th symmetry that is told, from 0."""
+    refusal = text_refusal(t)
+    if refusal < 0:
+        return [refusal]
+    found = told(split_rows(t))
+    if k >= len(found):
+        return [REFUSED_PLACE]
+    return [0] + list(found[k])
+
+
+def least(t):
+    """Answer 0, p, q, r: the least repeat of the chart's field."""
+    refusal = text_refusal(t)
+    if refusal < 0:
+        return [refusal]
+    rows = split_rows(t)
+    across = least_step_across(rows)
+    down = least_step_down(rows, across)
+    return [0, across, down[0], down[1]]
 
 
 def text_refusal(t):
@@ -98,6 +121,26 @@ def told_with_turn(rows, m):
             if fits(cell, image, a, b):
                 found.append((m, a, b))
     return found
+
+
+def least_step_across(rows):
+    """Give the least p above 0 for which (p, 0) is a step."""
+    width = len(rows[0])
+    for p in range(1, width):
+        if fits(rows, rows, p, 0):
+            return p
+    return width
+
+
+def least_step_down(rows, p):
+    """Give the step (q, r) with the least r above 0 and, for that r, the least q, 0 or more."""
+    height = len(rows)
+    for r in range(1, height):
+        # With (q, r) there is (q - p, r), so the least q is below p.
+        for q in range(p):
+            if fits(rows, rows, q, r):
+                return (q, r)
+    return (0, height)
 
 
 def cell_for(rows, m):

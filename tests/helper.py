@@ -40,6 +40,11 @@ def text(written):
     return list(written.replace("/", "\n").encode())
 
 
+def repeated(written, across, down):
+    """Give the chart set beside itself and below itself that many times."""
+    return "".join(row * across + "/" for row in written.split("/")[:-1]) * down
+
+
 def turn(m, x, y):
     return [(x, y), (-y, x), (-x, -y), (y, -x), (-x, y), (-y, -x), (x, -y), (y, x)][m]
 
@@ -61,6 +66,23 @@ def told(written):
     rows = written.split("/")[:-1]
     return [(m, a, b) for m in range(8) for b in range(len(rows)) for a in range(len(rows[0]))
             if is_symmetry(written, m, a, b)]
+
+
+def is_step(written, a, b):
+    """Look at every knot of the chart and at that which lies (a, b) further on in the field."""
+    rows = written.split("/")[:-1]
+    width, height = len(rows[0]), len(rows)
+    return all(rows[(y + b) % height][(x + a) % width] == rows[y][x]
+               for y in range(height) for x in range(width))
+
+
+def least_repeat(written):
+    """Give p, q and r by the document's words alone."""
+    width, height = written.index("/"), written.count("/")
+    p = min(p for p in range(1, width + 1) if is_step(written, p, 0))
+    r = min(r for r in range(1, height + 1) if any(is_step(written, a, r) for a in range(width)))
+    q = min(a for a in range(width) if is_step(written, a, r))
+    return p, q, r
 
 
 def small_charts():

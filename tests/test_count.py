@@ -2,12 +2,8 @@ import time
 import unittest
 
 from knotcharts.symmetries import count, has
-from tests.helper import COLOURS, DOC_CHARTS, PINWHEEL, REFUSED_TEXTS, Watched, small_charts, text, told
-
-
-def repeated(written, across, down):
-    """Give the chart set beside itself and below itself that many times."""
-    return "".join(row * across + "/" for row in written.split("/")[:-1]) * down
+from tests.helper import (COLOURS, DOC_CHARTS, PINWHEEL, REFUSED_TEXTS, Watched, repeated,
+                          small_charts, text, told)
 
 
 class CountTest(unittest.TestCase):
