@@ -10,6 +10,7 @@ WIDEST = 512
 HIGHEST = 512
 ROW_END = 10
 LAST_TURN = 7
+FIRST_MIRRORED = 4
 
 REFUSED_MOTION = -1
 REFUSED_LONG_TEXT = -2
@@ -24,8 +25,8 @@ def has(m, a, b, t):
         return [refusal]
     if m > LAST_TURN:
         return [REFUSED_MOTION]
-    cell = cell_for(split_rows(t), m)
-    if cell is not None and fits(cell, turned(cell, m), a, b):
+    tile = tile_for(split_rows(t), m)
+    if tile is not None and fits(tile, turned(tile, m), a, b):
         return [1]
     return [0]
 
@@ -54,10 +55,33 @@ def least(t):
     refusal = text_refusal(t)
     if refusal < 0:
         return [refusal]
+    return [0] + list(least_repeat(split_rows(t)))
+
+
+def cell(t):
+    """Answer how many bytes the text of the chart of the least repeat has, and these bytes."""
+    refusal = text_refusal(t)
+    if refusal < 0:
+        return [refusal]
     rows = split_rows(t)
-    across = least_step_across(rows)
-    down = least_step_down(rows, across)
-    return [0, across, down[0], down[1]]
+    repeat = least_repeat(rows)
+    written = []
+    for row in rows[:repeat[2]]:
+        written.extend(row[:repeat[0]] + [ROW_END])
+    return [len(written)] + written
+
+
+def kind(t):
+    """Answer the field's kind, of how many m there are symmetries, of how many m mirrors."""
+    refusal = text_refusal(t)
+    if refusal < 0:
+        return [refusal]
+    rows = split_rows(t)
+    turns = [m for m in range(LAST_TURN + 1) if len(told_with_turn(rows, m)) > 0]
+    doubles = [done_twice(rows, m) for m in turns if m >= FIRST_MIRRORED]
+    mirrors = len([steps for steps in doubles if (0, 0) in steps])
+    glides = any([has_glide(rows, steps) for steps in doubles])
+    return [kind_number(turns, mirrors, glides), len(turns), mirrors]
 
 
 def text_refusal(t):
@@ -111,16 +135,23 @@ def told(rows):
 
 def told_with_turn(rows, m):
     """Give the told symmetries with this m alone, in order by b, then a."""
-    cell = cell_for(rows, m)
-    if cell is None:
+    tile = tile_for(rows, m)
+    if tile is None:
         return []
-    image = turned(cell, m)
+    image = turned(tile, m)
     found = []
     for b in range(len(rows)):
         for a in range(len(rows[0])):
-            if fits(cell, image, a, b):
+            if fits(tile, image, a, b):
                 found.append((m, a, b))
     return found
+
+
+def least_repeat(rows):
+    """Give p, q and r of the least repeat."""
+    p = least_step_across(rows)
+    down = least_step_down(rows, p)
+    return (p, down[0], down[1])
 
 
 def least_step_across(rows):
@@ -143,18 +174,80 @@ def least_step_down(rows, p):
     return (0, height)
 
 
-def cell_for(rows, m):
+def done_twice(rows, m):
+    """Give the steps that symmetries with this m, from 4 to 7, are when they are done twice.
+
+    The symmetries are as many as it takes to find every mirror and every glide.
+    """
+    tile = tile_for(rows, m)
+    steps = []
+    for found in told_with_turn(tile, m):
+        a = found[1]
+        # The told ones aren't enough: with m 7 a mirror's b is -a. And with odd m
+        # half of the step lies half a side off when b is less by a side, so it may be
+        # no step there. Any other a and b put that half whole sides off, or nowhere.
+        for b in (found[2], found[2] - len(tile)):
+            place = turned_place(m, a, b)
+            steps.append((place[0] + a, place[1] + b))
+    return steps
+
+
+def has_glide(rows, steps):
+    """Tell whether one of these steps, each a symmetry done twice, is not twice a step."""
+    return any([not is_twice_a_step(rows, step[0], step[1]) for step in steps])
+
+
+def is_twice_a_step(rows, a, b):
+    """Tell whether half of (a, b) is a step of the field."""
+    return a % 2 == 0 and b % 2 == 0 and fits(rows, rows, a // 2, b // 2)
+
+
+def kind_number(turns, mirrors, glides):
+    """Give the field's kind: by the m of its symmetries, how many m have mirrors, and if there are glides."""
+    # A symmetry with m 4 to 7 that is no glide, moved back by half of the step that it
+    # is when done twice, is a mirror. So without mirrors and glides no m 4 to 7 has any.
+    if 1 in turns or 3 in turns:
+        return kind_with_quarter_turns(mirrors, glides)
+    if 2 in turns:
+        return kind_with_half_turns(mirrors, glides)
+    return kind_without_turns(mirrors, glides)
+
+
+def kind_without_turns(mirrors, glides):
+    """Give the kind, 1 to 4, of a field that has no symmetry with m 1, 2, 3."""
+    if mirrors == 0:
+        return 3 if glides else 1
+    return 4 if glides else 2
+
+
+def kind_with_half_turns(mirrors, glides):
+    """Give the kind, 5 to 9, of a field that has symmetries with m 2, none with m 1, 3."""
+    if mirrors == 0:
+        return 8 if glides else 5
+    if mirrors == 1:
+        return 7
+    return 9 if glides else 6
+
+
+def kind_with_quarter_turns(mirrors, glides):
+    """Give the kind, 10 to 12, of a field that has symmetries with m 1 or 3."""
+    if mirrors == 0 and not glides:
+        return 10
+    return 11 if mirrors == 4 else 12
+
+
+def tile_for(rows, m):
     """Give rows that repeat to the same field and that m turns onto themselves.
 
     None if there are none, as then no symmetry has this m.
     """
     # Turns with odd m change places between the sides: w by h becomes h by w.
     if m % 2 == 1:
-        return square_cell(rows)
+        return square_tile(rows)
     return rows
 
 
-def square_cell(rows):
+def square_tile(rows):
     """Give the square whose side is the common measure of w and h, if it repeats to rows, else None."""
     # A symmetry with odd m carries the steps (w, 0) and (0, h) over into (0, w)
     # and (h, 0). So the field repeats by w and by h to either side, and thus by
@@ -162,9 +255,9 @@ def square_cell(rows):
     width = len(rows[0])
     height = len(rows)
     side = common_measure(width, height)
-    cell = [row[:side] for row in rows[:side]]
-    if rows == [cell[y % side] * (width // side) for y in range(height)]:
-        return cell
+    tile = [row[:side] for row in rows[:side]]
+    if rows == [tile[y % side] * (width // side) for y in range(height)]:
+        return tile
     return None
 
 
@@ -177,15 +270,15 @@ def common_measure(first, second):
     return first
 
 
-def turned(cell, m):
-    """Give the cell with each knot at m's turn of its place, brought back within the cell."""
-    width = len(cell[0])
-    height = len(cell)
+def turned(tile, m):
+    """Give the tile with each knot at m's turn of its place, brought back within the tile."""
+    width = len(tile[0])
+    height = len(tile)
     image = [[0] * width for y in range(height)]
     for y in range(height):
         for x in range(width):
             place = turned_place(m, x, y)
-            image[place[1] % height][place[0] % width] = cell[y][x]
+            image[place[1] % height][place[0] % width] = tile[y][x]
     return image
 
 
@@ -208,12 +301,12 @@ def turned_place(m, x, y):
     return (y, x)
 
 
-def fits(cell, image, a, b):
-    """Tell whether the image, moved on by (a, b), lies on the repeated cell colour on colour."""
-    height = len(cell)
-    left = a % len(cell[0])
+def fits(tile, image, a, b):
+    """Tell whether the image, moved on by (a, b), lies on the repeated tile colour on colour."""
+    height = len(tile)
+    left = a % len(tile[0])
     for y in range(height):
-        row = cell[(y + b) % height]
+        row = tile[(y + b) % height]
         # Whole rows are compared, not knot by knot, for count asks this very often.
         if row[left:] + row[:left] != image[y]:
             return False

@@ -8,6 +8,15 @@ DOC_CHARTS = ["ab/ba/", "aab/", "aabc/", "ab/cd/", "abc/bca/cab/", "ab/"]
 # Quarter turns and no mirrors: the knots b lie where y is 2x.
 PINWHEEL = "baaaa/aaaba/abaaa/aaaab/aabaa/"
 
+# Steps (2, 2): each second row but one is pushed on by two.
+PUSHED_ON = "aabb/abbb/bbaa/bbab/"
+# Steps (2, 1), p 6: each row is pushed on by two.
+BY_TWO = "aaabbc/bcaaab/abbcaa/"
+# Steps (3, 1) and none (0, 1), p 5.
+BY_THREE = "abcde/cdeab/eabcd/bcdea/deabc/"
+# No steps but those by the width and by the height.
+WITHOUT_STEPS = ["abcd/efgh/ijkl/", "ab/cd/", "ab/aa/", "aaa/aba/", "aab/", "a/a/b/", "aa/ab/aa/"]
+
 REFUSED_TEXTS = [
     (-6, "the empty text", []),
     (-6, "no byte 10 at the end", list(b"ab\nba")),
@@ -43,6 +52,41 @@ def text(written):
 def repeated(written, across, down):
     """Give the chart set beside itself and below itself that many times."""
     return "".join(row * across + "/" for row in written.split("/")[:-1]) * down
+
+
+def in_ring(written, right, down):
+    """Give the chart with its knots moved on in a ring."""
+    rows = written.split("/")[:-1]
+    width, height = len(rows[0]), len(rows)
+    return "".join("".join(rows[(y - down) % height][(x - right) % width] for x in range(width)) + "/"
+                   for y in range(height))
+
+
+def coloured_anew(written, on):
+    """Give the chart with each colour changed for that which stands so many further on, in a ring."""
+    return "".join(knot if knot == "/" else chr(COLOURS[(COLOURS.index(ord(knot)) + on) % 62]) for knot in written)
+
+
+def drawn(width, height, motions):
+    """Give a chart as colourful as can be that has these motions (m, a, b).
+
+    With m odd it's to be as high as it is wide.
+    """
+    colours = {}
+    for y, x in product(range(height), range(width)):
+        if (x, y) in colours:
+            continue
+        colour = chr(COLOURS[len(set(colours.values()))])
+        open_places = [(x, y)]
+        while open_places:
+            place = open_places.pop()
+            colours[place] = colour
+            for m, a, b in motions:
+                moved = turn(m, *place)
+                moved = ((moved[0] + a) % width, (moved[1] + b) % height)
+                if moved not in colours:
+                    open_places.append(moved)
+    return "".join("".join(colours[x, y] for x in range(width)) + "/" for y in range(height))
 
 
 def turn(m, x, y):

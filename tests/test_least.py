@@ -3,16 +3,8 @@ import unittest
 from itertools import product
 
 from knotcharts.symmetries import count, has, least
-from tests.helper import (COLOURS, DOC_CHARTS, PINWHEEL, REFUSED_TEXTS, Watched, is_step, least_repeat,
-                          repeated, small_charts, text)
-
-# Steps (2, 2): each second row but one is pushed on by two.
-PUSHED_ON = "aabb/abbb/bbaa/bbab/"
-# Steps (2, 1), p 6: each row is pushed on by two.
-BY_TWO = "aaabbc/bcaaab/abbcaa/"
-# Steps (3, 1) and none (0, 1), p 5.
-BY_THREE = "abcde/cdeab/eabcd/bcdea/deabc/"
-WITHOUT_STEPS = ["abcd/efgh/ijkl/", "ab/cd/", "ab/aa/", "aaa/aba/", "aab/", "a/a/b/", "aa/ab/aa/"]
+from tests.helper import (BY_THREE, BY_TWO, COLOURS, DOC_CHARTS, PINWHEEL, PUSHED_ON, REFUSED_TEXTS, WITHOUT_STEPS,
+                          Watched, is_step, least_repeat, repeated, small_charts, text)
 
 
 class LeastTest(unittest.TestCase):
