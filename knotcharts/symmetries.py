@@ -11,6 +11,7 @@ HIGHEST = 512
 ROW_END = 10
 LAST_TURN = 7
 FIRST_MIRRORED = 4
+BORDER_TURNS = (0, 2, 4, 6)
 
 REFUSED_MOTION = -1
 REFUSED_LONG_TEXT = -2
@@ -82,6 +83,17 @@ def kind(t):
     mirrors = len([steps for steps in doubles if (0, 0) in steps])
     glides = any([has_glide(rows, steps) for steps in doubles])
     return [kind_number(turns, mirrors, glides), len(turns), mirrors]
+
+
+def strip(t):
+    """Answer, of the chart as a border: its kind, its least step above 0, how many symmetries have a below w."""
+    refusal = text_refusal(t)
+    if refusal < 0:
+        return [refusal]
+    rows = split_rows(t)
+    turns = [border_moves(rows, m) for m in BORDER_TURNS]
+    number = border_kind(turns[1], turns[2], turns[3])
+    return [number, least_step_across(rows), sum([len(moves) for moves in turns])]
 
 
 def text_refusal(t):
@@ -234,6 +246,27 @@ def kind_with_quarter_turns(mirrors, glides):
     if mirrors == 0 and not glides:
         return 10
     return 11 if mirrors == 4 else 12
+
+
+def border_moves(rows, m):
+    """Give each a from 0 to w - 1 with which the border has the symmetry (m, a)."""
+    # These are the field's symmetries that leave every row within its chart: upside
+    # down, with m 2 and m 6, row y goes to -y, and by h - 1 further on to h - 1 - y.
+    b = len(rows) - 1 if m == 2 or m == 6 else 0
+    image = turned(rows, m)
+    return [a for a in range(len(rows[0])) if fits(rows, image, a, b)]
+
+
+def border_kind(half_turns, mirrors, flips):
+    """Give a border's kind, 1 to 7, by its symmetries with m 2, with m 4 and with m 6."""
+    # With (6, a) and the step (0, a), also undone, there's (6, 0); its step is (0, 0).
+    if 0 in flips:
+        return 7 if len(mirrors) > 0 else 2
+    if len(flips) > 0:
+        return 6 if len(mirrors) > 0 else 4
+    if len(mirrors) > 0:
+        return 3
+    return 5 if len(half_turns) > 0 else 1
 
 
 def tile_for(rows, m):
